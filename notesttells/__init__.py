@@ -1,0 +1,1 @@
+"""Drawing machines that stand for one another in every surrounding."""
