@@ -7,6 +7,12 @@ from importlib import import_module
 # For each module its functions, and its classes with their methods, and the arguments of each.
 FUNCTIONS = {
     "machine": {"chance": ["machine", "way"], "fit": ["one", "other"], "begun": ["machine", "state"]},
+    "tell": {"settle": ["one", "other"], "judge": ["one", "other", "found"]},
+    "group": {"alike": ["machine"], "lumps": ["machine"], "lumped": ["machine"]},
+    "thin": {
+        "thin": ["machine"], "thin_holds": ["machine", "thinning"], "thinned": ["machine", "thinning"],
+    },
+    "make": {"mixture": ["machines", "lots"], "feeding": ["one", "other"], "beside": ["one", "other"]},
 }
 CLASSES = {
     "errors": {"TestError": {}, "BadText": {}, "BadPaper": {}, "BadMachine": {}, "TooLarge": {}, "BadRatio": {}},
@@ -23,6 +29,12 @@ CLASSES = {
             "states": ["self"], "buttons": ["self"], "answers": ["self"],
         },
     },
+    "tell": {
+        "Found": {
+            "__init__": ["self", "kind", "vectors", "start", "moves", "way"], "__eq__": ["self", "other"],
+        },
+    },
+    "thin": {"Thinning": {"__init__": ["self", "kept", "lots"], "__eq__": ["self", "other"]}},
 }
 
 

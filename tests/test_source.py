@@ -100,6 +100,50 @@ class Source(unittest.TestCase):
                     if isinstance(node.value, str):
                         self.assertNotIn("%", node.value)
 
+    def test_no_generators_where_lists_are_asked_for(self):
+        for path, tree in trees():
+            for node in ast.walk(tree):
+                self.assertNotIsInstance(node, (ast.GeneratorExp, ast.Yield, ast.YieldFrom), path.name)
+
+    def test_no_sets_and_no_decorators(self):
+        for path, tree in trees():
+            for node in ast.walk(tree):
+                self.assertNotIsInstance(node, (ast.Set, ast.SetComp), path.name)
+                self.assertEqual(getattr(node, "decorator_list", []), [])
+
+    def test_no_local_name_of_a_class_or_an_import_or_a_function(self):
+        for path, tree in trees():
+            bound = [alias.name for node in tree.body if isinstance(node, ast.ImportFrom) for alias in node.names]
+            bound += [node.name for node in tree.body if isinstance(node, (ast.FunctionDef, ast.ClassDef))]
+            self.assertEqual(len(set(bound)), len(bound), path.name)
+            for node in ast.walk(tree):
+                if isinstance(node, ast.arg):
+                    self.assertNotIn(node.arg, bound, (path.name, node.lineno))
+                if isinstance(node, ast.Name) and isinstance(node.ctx, ast.Store):
+                    self.assertNotIn(node.id, bound, (path.name, node.lineno))
+
+    def test_what_is_called_with_a_star(self):
+        own = {node.name for _, tree in trees() for node in tree.body if hasattr(node, "name")}
+        for path, tree in trees():
+            for node in ast.walk(tree):
+                if isinstance(node, ast.Call) and any(isinstance(arg, ast.Starred) for arg in node.args):
+                    self.assertIn(node.func.id, own | {"zip", "max", "min"}, (path.name, node.lineno))
+                    for arg in node.args:
+                        if isinstance(arg, ast.Starred):
+                            self.assertIsInstance(arg.value, (ast.Name, ast.Attribute), (path.name, node.lineno))
+
+    def test_no_name_is_a_method_and_an_attribute(self):
+        methods, attributes = {}, {}
+        for path, tree in trees():
+            for node in ast.walk(tree):
+                if isinstance(node, ast.ClassDef):
+                    for part in node.body:
+                        if isinstance(part, ast.FunctionDef):
+                            methods[part.name] = path.name
+                if isinstance(node, ast.Attribute) and isinstance(node.ctx, ast.Store):
+                    attributes[node.attr] = path.name
+        self.assertEqual(set(methods) & set(attributes), set())
+
     def test_words_that_are_not_used(self):
         barred = re.compile(r"\b(type|typing|enum|Enum|ABC|namedtuple|NamedTuple|register|open|input|eval|exec|law)\b")
         for path, tree in trees():
