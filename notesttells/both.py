@@ -1,5 +1,6 @@
 """Vectors of two machines, as integers."""
 
+from notesttells.steps import leading, next_numbers, weights_of
 from notesttells.whole import Whole, whole
 
 
@@ -14,7 +15,7 @@ class Both:
         self.first = one.states()
         self.size = one.states() + other.states()
         self.start = whole(one.start + other.start)
-        self.bottom = whole(_weights(one) + _weights(other)).bottom
+        self.bottom = whole(weights_of(one) + weights_of(other)).bottom
         self.steps = [
             ((button, answer), self._columns(one.moves[button][answer], other.moves[button][answer]))
             for button in range(one.buttons())
@@ -22,33 +23,12 @@ class Both:
         ]
 
     def _columns(self, rows, other_rows):
-        return _leading(rows, 0, self.bottom) + _leading(other_rows, self.first, self.bottom)
-
-    def next_numbers(self, numbers, columns):
-        """The vector behind a step, times the bottom."""
-        return [sum([numbers[here] * weight for here, weight in column]) for column in columns]
+        return leading(rows, 0, self.bottom) + leading(other_rows, self.first, self.bottom)
 
     def next_whole(self, vector, columns):
         """The Whole of the vector behind a step."""
-        return Whole(self.next_numbers(vector.numbers, columns), vector.bottom * self.bottom)
+        return Whole(next_numbers(vector.numbers, columns), vector.bottom * self.bottom)
 
     def is_even(self, numbers):
         """True if both machines have the same sum."""
         return sum(numbers[:self.first]) == sum(numbers[self.first:])
-
-
-def _weights(machine):
-    """All weights of the moves in one list."""
-    return [weight for parts in machine.moves for rows in parts for row in rows for weight in row]
-
-
-def _leading(rows, ahead, bottom):
-    """For each state the states that lead to it, with as many ahead of them, and their weights times the bottom."""
-    return [
-        [
-            (ahead + here, row[there].num * (bottom // row[there].den))
-            for here, row in enumerate(rows)
-            if row[there].num != 0
-        ]
-        for there in range(len(rows))
-    ]

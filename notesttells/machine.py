@@ -1,6 +1,6 @@
 """Machines that draw their answers and their next states by lots."""
 
-from notesttells.errors import BadMachine
+from notesttells.errors import BadMachine, TooLarge
 from notesttells.ratio import Ratio, are_lots, total
 
 MOST_STATES = 12
@@ -69,6 +69,12 @@ def _is_square(rows, states):
 def _leads_on(parts, state):
     """True if one button's weights from a state, over all answers and states, are lots."""
     return are_lots([weight for rows in parts for weight in rows[state]])
+
+
+def ask_states(many):
+    """Raises TooLarge for more states than a machine may have."""
+    if many > MOST_STATES:
+        raise TooLarge("states")
 
 
 def moved(weights, rows):

@@ -1,7 +1,7 @@
 """Larger machines that are made of smaller ones."""
 
 from notesttells.errors import BadMachine, TooLarge
-from notesttells.machine import MOST_ANSWERS, MOST_STATES, Machine, fit
+from notesttells.machine import MOST_ANSWERS, Machine, ask_states, fit
 from notesttells.ratio import Ratio, are_lots, total
 
 
@@ -14,7 +14,7 @@ def mixture(machines, lots):
         raise BadMachine("answers")
     if len(lots) != len(machines) or not are_lots(lots):
         raise BadMachine("start")
-    _ask_states(sum([machine.states() for machine in machines]))
+    ask_states(sum([machine.states() for machine in machines]))
     start = [lot * weight for machine, lot in zip(machines, lots) for weight in machine.start]
     moves = [
         [_blocks([machine.moves[button][answer] for machine in machines]) for answer in range(first.answers())]
@@ -27,7 +27,7 @@ def feeding(one, other):
     """The machine in which each answer of the first machine presses a button of the second one, which answers."""
     if one.answers() != other.buttons():
         raise BadMachine("buttons")
-    _ask_states(one.states() * other.states())
+    ask_states(one.states() * other.states())
     moves = [
         [_fed(parts, [tables[answer] for tables in other.moves]) for answer in range(other.answers())]
         for parts in one.moves
@@ -39,7 +39,7 @@ def beside(one, other):
     """The machine in which each press is a press of both machines, and the answer is made of both answers."""
     if one.buttons() != other.buttons():
         raise BadMachine("buttons")
-    _ask_states(one.states() * other.states())
+    ask_states(one.states() * other.states())
     if one.answers() * other.answers() > MOST_ANSWERS:
         raise TooLarge("answers")
     moves = [
@@ -47,12 +47,6 @@ def beside(one, other):
         for parts, other_parts in zip(one.moves, other.moves)
     ]
     return Machine(_products(one.start, other.start), moves)
-
-
-def _ask_states(many):
-    """Raises TooLarge for more states than a machine may have."""
-    if many > MOST_STATES:
-        raise TooLarge("states")
 
 
 def _blocks(tables):

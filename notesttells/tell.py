@@ -4,6 +4,7 @@ from notesttells.both import Both
 from notesttells.machine import chance, fit
 from notesttells.ratio import Ratio
 from notesttells.span import Span
+from notesttells.steps import next_numbers
 from notesttells.whole import whole
 
 
@@ -123,7 +124,7 @@ def _shows(both, found):
     start = [flat.bottom * number for number in both.start.numbers]
     if not _add_up(vectors, found.start, start, both.start.bottom):
         return False
-    goals = [both.next_numbers(vector, columns) for vector in vectors for _, columns in both.steps]
+    goals = [next_numbers(vector, columns) for vector in vectors for _, columns in both.steps]
     return all([_add_up(vectors, numbers, goal, both.bottom) for numbers, goal in zip(found.moves, goals)])
 
 

@@ -13,6 +13,13 @@ FUNCTIONS = {
         "thin": ["machine"], "thin_holds": ["machine", "thinning"], "thinned": ["machine", "thinning"],
     },
     "make": {"mixture": ["machines", "lots"], "feeding": ["one", "other"], "beside": ["one", "other"]},
+    "best": {"best_test": ["one", "other", "length"], "plan_chance": ["one", "other", "plan"]},
+    "box": {"read_box": ["text"], "read_around": ["text"], "box_text": ["box"]},
+    "run": {"machine_of": ["box"], "placed": ["box", "machine"], "telling": ["way"]},
+    "paper": {
+        "paper_lines": ["found"], "read_paper": ["one", "other", "lines"],
+        "thin_lines": ["thinning"], "read_thin": ["machine", "lines"],
+    },
 }
 CLASSES = {
     "errors": {"TestError": {}, "BadText": {}, "BadPaper": {}, "BadMachine": {}, "TooLarge": {}, "BadRatio": {}},
@@ -35,6 +42,11 @@ CLASSES = {
         },
     },
     "thin": {"Thinning": {"__init__": ["self", "kept", "lots"], "__eq__": ["self", "other"]}},
+    "box": {
+        "Box": {
+            "__init__": ["self", "buttons", "answers", "variables", "start", "block"], "__eq__": ["self", "other"],
+        },
+    },
 }
 
 
