@@ -37,14 +37,14 @@ def written_box(buttons, answers, variables, start, block):
 class Drawn:
     """The data of a box or a surrounding from a source of numbers, within all bounds."""
 
-    def __init__(self, random, around, variables=None, most=12):
+    def __init__(self, random, around, variables=None, largest=12, most=12):
         self.random = random
         self.around = around
         self.left = most
         self.draws = 0
         self.uses = 0
         many = random.randint(0, 4) if variables is None else variables
-        self.variables = tuple((name, random.randint(1, 12)) for name in random.sample(NAMES, many))
+        self.variables = tuple((name, random.randint(1, largest)) for name in random.sample(NAMES, many))
 
     def data(self):
         start = self.block(0, False)
