@@ -63,11 +63,11 @@ def calls():
         (placed, (telling(way), one)), (paper_lines, (found,)), (paper_lines, (apart,)), (read_paper, (one, same, lines)),
         (read_paper, (one, other, lines)), (read_paper, (one, other, apart_lines)), (read_paper, (one, other, [])),
         (thin_lines, (thinning,)), (read_thin, (mixed, thin_paper)), (read_thin, (one, thin_paper)),
-        (renamed_start, (one,)),
+        (settled_with_lumped, (one,)),
     ]
 
 
-def renamed_start(machine):
+def settled_with_lumped(machine):
     """A call of several functions in one another."""
     return settle(machine, lumped(renamed(machine, (1, 0))))
 
